@@ -2,6 +2,7 @@
 package chunk
 
 import (
+	"iter"
 	"math/bits"
 	"slices"
 
@@ -44,6 +45,39 @@ func (c *Chunk[V]) Value(j int) V {
 	}
 	// Only integers have a base, and a cell carries one over to V, whatever V is.
 	return c.kind.Value(api.Cell{Int: c.Base + int64(c.lane(j))})
+}
+
+// Values goes through the values of the rows, each at least once. What stands in the dictionary and in no row is
+// not among them.
+func (c *Chunk[V]) Values() iter.Seq[V] {
+	switch c.Codec {
+	case api.CodecPlain, api.CodecRuns:
+		return slices.Values(c.List)
+	case api.CodecDict:
+		return slices.Values(c.usedEntries())
+	}
+	return func(yield func(V) bool) {
+		for j := range c.Count {
+			if !yield(c.Value(j)) {
+				return
+			}
+		}
+	}
+}
+
+// usedEntries lists the entries of the dictionary that stand in some row.
+func (c *Chunk[V]) usedEntries() []V {
+	used := make([]bool, len(c.List))
+	for j := range c.Count {
+		used[c.lane(j)] = true
+	}
+	var entries []V
+	for code, v := range c.List {
+		if used[code] {
+			entries = append(entries, v)
+		}
+	}
+	return entries
 }
 
 // Cell is the cell of a row, 0 <= row < Rows.

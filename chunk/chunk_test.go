@@ -44,12 +44,86 @@ func TestCellsOfKinds(t *testing.T) {
 		if chunk.OfKind(api.KindInt, s.cell) != s.int || chunk.OfKind(api.KindStr, s.cell) != s.str {
 			t.Errorf("cell %v: of KindInt %v, of KindStr %v", s.cell, !s.int, !s.str)
 		}
+		full := !s.cell.Null
+		if chunk.IsValue(api.KindInt, s.cell) != (s.int && full) || chunk.IsValue(api.KindStr, s.cell) != (s.str && full) {
+			t.Errorf("cell %v: what value it is", s.cell)
+		}
 		for _, kind := range []int{0, 3, -1} {
-			if chunk.OfKind(kind, s.cell) || chunk.IsKind(kind) {
+			if chunk.OfKind(kind, s.cell) || chunk.IsValue(kind, s.cell) || chunk.IsKind(kind) {
 				t.Errorf("cell %v is of kind %d", s.cell, kind)
 			}
 		}
 	}
+	for kind := -1; kind < 4; kind++ {
+		null := api.Cell{Null: true}
+		if chunk.OfKind(kind, null) != chunk.IsKind(kind) || chunk.IsValue(kind, null) {
+			t.Errorf("NULL and kind %d", kind)
+		}
+	}
+}
+
+func TestListsOfCells(t *testing.T) {
+	a, b, null := api.Cell{Int: 1}, api.Cell{Str: "b"}, api.Cell{Null: true}
+	all := make([]api.Cell, api.MaxRows+1)
+	for _, s := range []struct {
+		cells    []api.Cell
+		int, str bool
+	}{
+		{nil, true, true}, {[]api.Cell{null, null}, true, true}, {[]api.Cell{a, null, a}, true, false}, {[]api.Cell{b, null}, false, true},
+		{[]api.Cell{a, b}, false, false}, {[]api.Cell{b, a}, false, false}, {all[1:], true, true}, {all, false, false},
+	} {
+		if chunk.AreCells(api.KindInt, s.cells) != s.int || chunk.AreCells(api.KindStr, s.cells) != s.str {
+			t.Errorf("%d cells: of KindInt %v, of KindStr %v", len(s.cells), !s.int, !s.str)
+		}
+		if chunk.AreCells(0, s.cells) || chunk.AreCells(3, s.cells) {
+			t.Errorf("%d cells are of no kind", len(s.cells))
+		}
+	}
+}
+
+func TestWidthsThatMayBeChosen(t *testing.T) {
+	for codec := api.CodecPlain; codec <= api.CodecPacked; codec++ {
+		for _, width := range []int{math.MinInt, -1, 0, 1, 63, 64, 65, math.MaxInt} {
+			want := width == 0 || codec >= api.CodecFrame && width > 0 && width <= 64
+			if chunk.IsWidth(codec, width) != want {
+				t.Errorf("IsWidth(%d, %d) is not %v", codec, width, want)
+			}
+		}
+	}
+}
+
+// checkValues looks a body through, and asks for the different values of its rows.
+func checkValues[V chunk.Value](t *testing.T, kind chunk.Kind[V], rows int, body []byte, want ...V) {
+	t.Helper()
+	c, ok := chunk.Look(kind, rows, body)
+	if !ok {
+		t.Fatalf("% x is not valid", body)
+	}
+	got := slices.Sorted(c.Values())
+	if got = slices.Compact(got); !slices.Equal(got, want) {
+		t.Errorf("% x: the values are %v, want %v", body, got, want)
+	}
+	for first := range c.Values() {
+		if !slices.Contains(want, first) {
+			t.Errorf("% x: the first value is %v", body, first)
+		}
+		break
+	}
+}
+
+func TestValuesAreThoseOfTheRows(t *testing.T) {
+	bare, second := "\x00\x00\x00\x00\x00\x00\x00\x00", "\x02\x00\x00\x00\x00\x00\x00\x00"
+	checkValues[int64](t, chunk.Ints{}, 0, []byte("\x01\x00"))
+	checkValues[int64](t, chunk.Ints{}, 3, []byte("\x01\x00"+second+second+bare), 0, 2)
+	checkValues[string](t, chunk.Strs{}, 3, []byte("\x01\x00"+second+"\x01\x00\x00\x00\x02\x00\x00\x00ba"), "a", "b")
+	checkValues[string](t, chunk.Strs{}, 3, []byte("\x03\x00"+bare+"\x02\x00\x00\x00\x01\x00\x00\x00\x03\x00\x00\x00"+
+		"\x01\x00\x00\x00\x01\x00\x00\x00q"), "", "q")
+	checkValues[int64](t, chunk.Ints{}, 3, []byte("\x04\x02"+second+second+"\x0c\x00\x00\x00\x00\x00\x00\x00"), 2, 5)
+	checkValues[int64](t, chunk.Ints{}, 2, []byte("\x05\x00"+bare), 0)
+	// Of the three entries only the first and the last are used.
+	dict := "\x03\x00\x00\x00\x00\x00\x00\x00\x01\x00\x00\x00\x02\x00\x00\x00ab"
+	checkValues[string](t, chunk.Strs{}, 3, []byte("\x02\x02"+second+dict+"\x08\x00\x00\x00\x00\x00\x00\x00"), "", "b")
+	checkValues[string](t, chunk.Strs{}, 1, []byte("\x02\x02\x01\x00\x00\x00\x00\x00\x00\x00"+dict))
 }
 
 func TestAChunkKeepsItsParts(t *testing.T) {

@@ -51,6 +51,24 @@ func OfKind(kind int, c api.Cell) bool {
 	return false
 }
 
+// IsValue tells whether a cell is a value of the kind: of the kind, and not NULL.
+func IsValue(kind int, c api.Cell) bool {
+	return !c.Null && OfKind(kind, c)
+}
+
+// AreCells tells whether a chunk of the kind may hold these cells.
+func AreCells(kind int, cells []api.Cell) bool {
+	if !IsKind(kind) || !IsRows(len(cells)) {
+		return false
+	}
+	for _, c := range cells {
+		if !OfKind(kind, c) {
+			return false
+		}
+	}
+	return true
+}
+
 // IsCodec tells whether a codec is for the kind.
 func IsCodec(kind int, codec int) bool {
 	switch codec {
@@ -60,6 +78,14 @@ func IsCodec(kind int, codec int) bool {
 		return kind == api.KindInt
 	}
 	return false
+}
+
+// IsWidth tells whether a width may be chosen for a codec; the others fix theirs.
+func IsWidth(codec int, width int) bool {
+	if codec == api.CodecFrame || codec == api.CodecPacked {
+		return width >= 0 && width <= 64
+	}
+	return width == 0
 }
 
 // Need is the least width in which the numbers below d can be told apart.
