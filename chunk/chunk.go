@@ -80,14 +80,81 @@ func (c *Chunk[V]) usedEntries() []V {
 	return entries
 }
 
+// Tally goes through the values in the rows that are set in sel, a bitmap of Rows bits, and tells with each how many
+// of these rows it stands for. An entry of the dictionary is shown once at most, and so is a run.
+func (c *Chunk[V]) Tally(sel []uint64) iter.Seq2[V, int] {
+	return func(yield func(V, int) bool) {
+		switch c.Codec {
+		case api.CodecDict:
+			showTally(c.List, c.tallyCodes(sel), yield)
+		case api.CodecRuns:
+			showTally(c.List, c.tallyRuns(sel), yield)
+		default:
+			for j := range c.chosen(sel) {
+				if !yield(c.Value(j), 1) {
+					return
+				}
+			}
+		}
+	}
+}
+
+// showTally yields the values that were counted.
+func showTally[V Value](vals []V, counts []int, yield func(V, int) bool) {
+	for i, times := range counts {
+		if times > 0 && !yield(vals[i], times) {
+			return
+		}
+	}
+}
+
+// tallyCodes counts for each entry of the dictionary the rows set in sel that it stands for.
+func (c *Chunk[V]) tallyCodes(sel []uint64) []int {
+	counts := make([]int, len(c.List))
+	for j := range c.chosen(sel) {
+		counts[c.lane(j)]++
+	}
+	return counts
+}
+
+// tallyRuns counts for each run the rows set in sel that it stands for.
+func (c *Chunk[V]) tallyRuns(sel []uint64) []int {
+	counts := make([]int, len(c.List))
+	run := 0
+	for j := range c.chosen(sel) {
+		for c.Ends[run] <= j {
+			run++
+		}
+		counts[run]++
+	}
+	return counts
+}
+
+// chosen goes through the numbers of the values in the rows that are set in sel, ascending.
+func (c *Chunk[V]) chosen(sel []uint64) iter.Seq[int] {
+	return func(yield func(int) bool) {
+		for k, word := range sel {
+			for word &^= c.Nulls[k]; word != 0; word &= word - 1 {
+				if !yield(c.number(64*k + bits.TrailingZeros64(word))) {
+					return
+				}
+			}
+		}
+	}
+}
+
+// number is the number, among the values, of the one in a row that is not NULL.
+func (c *Chunk[V]) number(row int) int {
+	word, bit := row/64, uint(row%64)
+	return row - c.nullsBefore[word] - bits.OnesCount64(c.Nulls[word]<<(63-bit))
+}
+
 // Cell is the cell of a row, 0 <= row < Rows.
 func (c *Chunk[V]) Cell(row int) api.Cell {
-	word, bit := row/64, uint(row%64)
-	if c.Nulls[word]>>bit&1 == 1 {
+	if c.Nulls[row/64]>>uint(row%64)&1 == 1 {
 		return api.Cell{Null: true}
 	}
-	nulls := c.nullsBefore[word] + bits.OnesCount64(c.Nulls[word]<<(63-bit))
-	return c.kind.Cell(c.Value(row - nulls))
+	return c.kind.Cell(c.Value(c.number(row)))
 }
 
 // Cells lists the cells of all rows.

@@ -126,6 +126,85 @@ func TestValuesAreThoseOfTheRows(t *testing.T) {
 	checkValues[string](t, chunk.Strs{}, 1, []byte("\x02\x02\x01\x00\x00\x00\x00\x00\x00\x00"+dict))
 }
 
+// shown is a value, and for how many rows it was shown.
+type shown[V chunk.Value] struct {
+	value V
+	times int
+}
+
+// checkTally looks a body through, and asks for the values in the rows that are set.
+func checkTally[V chunk.Value](t *testing.T, kind chunk.Kind[V], rows int, body string, sel uint64, want ...shown[V]) {
+	t.Helper()
+	c, ok := chunk.Look(kind, rows, []byte(body))
+	if !ok {
+		t.Fatalf("% x is not valid", body)
+	}
+	var got []shown[V]
+	for v, times := range c.Tally([]uint64{sel}) {
+		got = append(got, shown[V]{v, times})
+	}
+	if !slices.Equal(got, want) {
+		t.Errorf("% x, rows %b: %v, want %v", body, sel, got, want)
+	}
+	for v, times := range c.Tally([]uint64{sel}) {
+		if (shown[V]{v, times}) != want[0] {
+			t.Errorf("% x, rows %b: the first is %v", body, sel, v)
+		}
+		break
+	}
+}
+
+func TestTallyShowsWhatTheRowsHold(t *testing.T) {
+	type ints = shown[int64]
+	type strs = shown[string]
+	second := "\x02\x00\x00\x00\x00\x00\x00\x00"
+	// Rows: 2, NULL, 0, 2.
+	plain := "\x01\x00" + second + second + "\x00\x00\x00\x00\x00\x00\x00\x00" + second
+	checkTally(t, chunk.Ints{}, 4, plain, 0b1111, ints{2, 1}, ints{0, 1}, ints{2, 1})
+	checkTally(t, chunk.Ints{}, 4, plain, 0b1110, ints{0, 1}, ints{2, 1})
+	checkTally(t, chunk.Ints{}, 4, plain, 0b0010)
+	checkTally(t, chunk.Ints{}, 4, plain, 0)
+	frame := "\x04\x02" + second + second + "\x0c\x00\x00\x00\x00\x00\x00\x00"
+	checkTally(t, chunk.Ints{}, 4, frame, 0b1111, ints{2, 1}, ints{5, 1}, ints{2, 1})
+	checkTally(t, chunk.Ints{}, 4, frame, 0b0110, ints{5, 1})
+	packed := "\x05\x02" + second + "\x1b\x00\x00\x00\x00\x00\x00\x00"
+	checkTally(t, chunk.Ints{}, 4, packed, 0b1011, ints{3, 1}, ints{1, 1})
+	// Entries "", a, b; the rows are b, NULL, "", b.
+	dict := "\x02\x02" + second + "\x03\x00\x00\x00\x00\x00\x00\x00\x01\x00\x00\x00\x02\x00\x00\x00ab\x22\x00\x00\x00\x00\x00\x00\x00"
+	checkTally(t, chunk.Strs{}, 4, dict, 0b1111, strs{"", 1}, strs{"b", 2})
+	checkTally(t, chunk.Strs{}, 4, dict, 0b1011, strs{"b", 2})
+	checkTally(t, chunk.Strs{}, 4, dict, 0b0110, strs{"", 1})
+	checkTally(t, chunk.Strs{}, 4, dict, 0b0010)
+	// Runs of 3, 1 and 2 values: q, NULL, q, q, "", q, q.
+	runs := "\x03\x00" + second + "\x03\x00\x00\x00\x03\x00\x00\x00\x04\x00\x00\x00\x06\x00\x00\x00" +
+		"\x01\x00\x00\x00\x01\x00\x00\x00\x02\x00\x00\x00qq"
+	checkTally(t, chunk.Strs{}, 7, runs, 0b1111111, strs{"q", 3}, strs{"", 1}, strs{"q", 2})
+	checkTally(t, chunk.Strs{}, 7, runs, 0b1001010, strs{"q", 1}, strs{"q", 1})
+	checkTally(t, chunk.Strs{}, 7, runs, 0b1000000, strs{"q", 1})
+	checkTally(t, chunk.Strs{}, 7, runs, 0)
+}
+
+func TestLessIsTheOrderOfValues(t *testing.T) {
+	ascending := [][]api.Cell{
+		{{Int: math.MinInt64}, {Int: -1}, {}, {Int: 1}, {Int: math.MaxInt64}},
+		{{}, {Str: "\x00"}, {Str: "a"}, {Str: "a\x00"}, {Str: "ab"}, {Str: "b"}, {Str: "\x80"}, {Str: "\xff"}},
+		{{Int: 1, Str: "b"}, {Int: 2, Str: "a"}, {Int: 2, Str: "b"}},
+	}
+	for _, cells := range ascending {
+		for i, a := range cells {
+			for k, b := range cells {
+				nullA, nullB := a, b
+				nullA.Null, nullB.Null = true, true
+				for _, less := range []bool{chunk.Less(a, b), chunk.Less(nullA, b), chunk.Less(a, nullB)} {
+					if less != (i < k) {
+						t.Errorf("Less(%v, %v) is not %v", a, b, i < k)
+					}
+				}
+			}
+		}
+	}
+}
+
 func TestAChunkKeepsItsParts(t *testing.T) {
 	body := []byte{2, 1, 2, 0, 0, 0, 0, 0, 0, 0, 2, 0, 0, 0, 0, 0, 0, 0, 1, 0, 0, 0, 'q', 1, 0, 0, 0, 0, 0, 0, 0}
 	c, ok := chunk.Look[string](chunk.Strs{}, 3, body)

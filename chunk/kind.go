@@ -56,6 +56,12 @@ func IsValue(kind int, c api.Cell) bool {
 	return !c.Null && OfKind(kind, c)
 }
 
+// Less holds two cells against each other; whether they are NULL is not looked at. So it is the order of the values
+// of one kind: the field that their kind does not use is alike in both.
+func Less(a api.Cell, b api.Cell) bool {
+	return a.Int < b.Int || a.Int == b.Int && a.Str < b.Str
+}
+
 // AreCells tells whether a chunk of the kind may hold these cells.
 func AreCells(kind int, cells []api.Cell) bool {
 	if !IsKind(kind) || !IsRows(len(cells)) {

@@ -50,18 +50,13 @@ func withRange(z api.Zone, cells []api.Cell) api.Zone {
 			z.Nulls++
 		case empty:
 			z.Min, z.Max, empty = c, c, false
-		case less(c, z.Min):
+		case chunk.Less(c, z.Min):
 			z.Min = c
-		case less(z.Max, c):
+		case chunk.Less(z.Max, c):
 			z.Max = c
 		}
 	}
 	return z
-}
-
-// less holds values of one kind against each other: the field that their kind does not use is alike in both.
-func less(a api.Cell, b api.Cell) bool {
-	return a.Int < b.Int || a.Int == b.Int && a.Str < b.Str
 }
 
 // zoneRecord is the record of a zone that is in order for the kind and that many rows.
