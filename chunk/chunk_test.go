@@ -81,6 +81,54 @@ func TestListsOfCells(t *testing.T) {
 	}
 }
 
+func TestLeavesOfKinds(t *testing.T) {
+	a, b, null := api.Cell{Int: 1}, api.Cell{Str: "b"}, api.Cell{Null: true}
+	for op := -1; op <= 13; op++ {
+		for count := range 4 {
+			want := op >= api.OpEq && op <= api.OpGe && count == 1 || op == api.OpIn || op == api.OpBetween && count == 2 || op == api.OpIsNull && count == 0
+			ints := api.Node{Op: op, Col: 99, Args: slices.Repeat([]api.Cell{a}, count)}
+			strs := api.Node{Op: op, Col: -1, Args: slices.Repeat([]api.Cell{b}, count)}
+			if chunk.IsLeaf(api.KindInt, ints) != want || chunk.IsLeaf(api.KindStr, strs) != want {
+				t.Errorf("op %d of %d literals is not %v", op, count, want)
+			}
+			if count > 0 && (chunk.IsLeaf(api.KindInt, strs) || chunk.IsLeaf(api.KindStr, ints)) {
+				t.Errorf("op %d of %d literals of the other kind", op, count)
+			}
+			if chunk.IsLeaf(0, ints) || chunk.IsLeaf(3, strs) {
+				t.Errorf("op %d of %d literals is for no kind", op, count)
+			}
+		}
+	}
+	for _, args := range [][]api.Cell{{null}, {a, null}, {null, a}, {a, b}} {
+		if chunk.IsLeaf(api.KindInt, api.Node{Op: api.OpIn, Args: args}) {
+			t.Errorf("literals %v", args)
+		}
+	}
+	for count, want := range map[int]bool{api.MaxArgs: true, api.MaxArgs + 1: false} {
+		if chunk.IsLeaf(api.KindInt, api.Node{Op: api.OpIn, Args: slices.Repeat([]api.Cell{a}, count)}) != want {
+			t.Errorf("%d literals", count)
+		}
+	}
+}
+
+func TestEmptyRowsAreTheirOwn(t *testing.T) {
+	for _, count := range []int{0, 1, 5} {
+		for _, columns := range []int{1, 3} {
+			rows := chunk.EmptyRows(count, columns)
+			if len(rows) != count {
+				t.Errorf("%d rows, not %d", len(rows), count)
+			}
+			for i, row := range rows {
+				if !slices.Equal(row, make([]api.Cell, columns)) {
+					t.Errorf("row %d is %v", i, row)
+				}
+				_ = append(row, api.Cell{Int: 9})
+				row[0].Int = 9
+			}
+		}
+	}
+}
+
 func TestWidthsThatMayBeChosen(t *testing.T) {
 	for codec := api.CodecPlain; codec <= api.CodecPacked; codec++ {
 		for _, width := range []int{math.MinInt, -1, 0, 1, 63, 64, 65, math.MaxInt} {

@@ -58,23 +58,13 @@ func bodyOf(b []byte, c api.Chunk) []byte {
 
 // readRows lists the rows of a group of a valid image.
 func readRows(b []byte, kinds []int, g api.Group) [][]api.Cell {
-	rows := emptyRows(g.Rows, len(kinds))
+	rows := chunk.EmptyRows(g.Rows, len(kinds))
 	for col, c := range g.Chunks {
 		// The image is valid, so no body is refused.
 		cells, _ := codec.Decode(kinds[col], g.Rows, bodyOf(b, c))
 		for i, cell := range cells {
 			rows[i][col] = cell
 		}
-	}
-	return rows
-}
-
-// emptyRows cuts rows out of one array, each without room behind it: one that is lengthened moves away.
-func emptyRows(count int, columns int) [][]api.Cell {
-	cells := make([]api.Cell, count*columns)
-	rows := make([][]api.Cell, count)
-	for i := range rows {
-		rows[i] = cells[i*columns : (i+1)*columns : (i+1)*columns]
 	}
 	return rows
 }

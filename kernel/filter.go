@@ -12,7 +12,7 @@ func filter[V chunk.Value](kind chunk.Kind[V], rows int, body []byte, leaf api.N
 	if !ok {
 		return api.Pair{}, api.ErrMalformed
 	}
-	if !isLeaf(kind.Number(), leaf) {
+	if !chunk.IsLeaf(kind.Number(), leaf) {
 		return api.Pair{}, api.ErrQuery
 	}
 	if leaf.Op == api.OpIsNull {

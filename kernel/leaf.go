@@ -7,32 +7,6 @@ import (
 	"colscan/chunk"
 )
 
-// isLeaf tells whether a node is a leaf that is well-typed for the kind.
-func isLeaf(kind int, node api.Node) bool {
-	if !takes(node.Op, len(node.Args)) {
-		return false
-	}
-	for _, arg := range node.Args {
-		if !chunk.IsValue(kind, arg) {
-			return false
-		}
-	}
-	return true
-}
-
-// takes tells whether op is a leaf's, and one that takes so many literals.
-func takes(op int, count int) bool {
-	switch op {
-	case api.OpIn:
-		return count <= api.MaxArgs
-	case api.OpBetween:
-		return count == 2
-	case api.OpIsNull:
-		return count == 0
-	}
-	return op >= api.OpEq && op <= api.OpGe && count == 1
-}
-
 // test is what a leaf other than OpIsNull asks of a value.
 type test[V chunk.Value] struct {
 	op int
